@@ -1,0 +1,1 @@
+"""Firstword: words of throws."""
