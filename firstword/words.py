@@ -1,20 +1,6 @@
 """Words and throws: how a word overlaps with itself, and where it stands in throws."""
 
-from firstword.errors import BadThrows, BadWord
-
-
-def is_letters(thing):
-    return isinstance(thing, str) and all(["a" <= sign <= "z" for sign in thing])
-
-
-def check_word(word):
-    if not is_letters(word) or len(word) == 0:
-        raise BadWord("a word is a text of one letter or more, each from a to z")
-
-
-def check_throws(throws):
-    if not is_letters(throws):
-        raise BadThrows("throws are a text of letters, each from a to z")
+from firstword.checks import MOST_SIDES, check_throws, check_word
 
 
 # The shorter beginnings are handed in, not found here, so that a walk over many throws
@@ -52,7 +38,7 @@ def reached_by_count(word, throws):
 
 
 def overlaps(word):
-    check_word(word)
+    check_word(MOST_SIDES, word)
     shorter = shorter_beginnings(word)
     falling = []
     count = len(word)
@@ -63,12 +49,12 @@ def overlaps(word):
 
 
 def stands(word, throws):
-    check_word(word)
-    check_throws(throws)
+    check_word(MOST_SIDES, word)
+    check_throws(MOST_SIDES, throws)
     return reached_by_count(word, throws)[len(throws)]
 
 
 def ends(word, throws):
-    check_word(word)
-    check_throws(throws)
+    check_word(MOST_SIDES, word)
+    check_throws(MOST_SIDES, throws)
     return [count for count, reached in enumerate(reached_by_count(word, throws)) if reached == len(word)]

@@ -62,10 +62,46 @@ def names_bound(tree):
     return bound
 
 
+def names_of_top(tree):
+    names = []
+    for node in tree.body:
+        if isinstance(node, (ast.FunctionDef, ast.ClassDef)):
+            names.append(node.name)
+        elif isinstance(node, ast.Assign):
+            names.append(node.targets[0].id)
+        elif isinstance(node, ast.ImportFrom):
+            names.extend(alias.name for alias in node.names)
+    return names
+
+
+def imported_names(tree):
+    return {alias.name for node in tree.body if isinstance(node, ast.ImportFrom) for alias in node.names}
+
+
+def names_within_functions(tree):
+    names = set()
+    for node in ast.walk(tree):
+        if isinstance(node, ast.FunctionDef):
+            names |= names_bound(node) - {node.name}
+    return names
+
+
+def parents_of(tree):
+    return {child: node for node in ast.walk(tree) for child in ast.iter_child_nodes(node)}
+
+
+def called_name(node):
+    if isinstance(node, ast.Call) and isinstance(node.func, ast.Name):
+        return node.func.id
+    if isinstance(node, ast.Call) and isinstance(node.func, ast.Attribute):
+        return "." + node.func.attr
+    return None
+
+
 class TestLanguage(unittest.TestCase):
     def test_the_package_is_there_with_python_files_alone(self):
         names = [path.name for path in package_files()]
-        for name in ("__init__.py", "errors.py", "words.py"):
+        for name in ("__init__.py", "answers.py", "counting.py", "errors.py", "waiting.py", "words.py"):
             self.assertIn(name, names)
         for name in names:
             self.assertRegex(name, r"^([a-z][a-z0-9_]*|__init__|__main__)\.py$")
@@ -132,6 +168,73 @@ class TestLanguage(unittest.TestCase):
             for node in ast.walk(tree):
                 if isinstance(node, ast.Call) and isinstance(node.func, ast.Attribute):
                     self.assertIn(node.func.attr, METHODS | own, (path, node.lineno))
+
+    def test_what_is_walked_is_walked_on_the_spot(self):
+        walks = ("zip", "enumerate", "reversed", "range", ".items", ".keys", ".values")
+        takers = ("list", "tuple", "dict", "sorted", "sum", "any", "all", "enumerate", "zip", "min", "max", ".join")
+        for path, _, tree in each_file():
+            parents = parents_of(tree)
+            for node in ast.walk(tree):
+                if called_name(node) in walks:
+                    parent = parents[node]
+                    walked = isinstance(parent, (ast.For, ast.comprehension)) and parent.iter is node
+                    taken = called_name(parent) in takers and parent.args[0] is node
+                    self.assertTrue(walked or taken, (path, node.lineno))
+
+    def test_sets_are_not_kept(self):
+        for path, _, tree in each_file():
+            parents = parents_of(tree)
+            for node in ast.walk(tree):
+                if called_name(node) in ("set", "frozenset"):
+                    parent = parents[node]
+                    self.assertTrue(
+                        called_name(parent) in ("sorted", "len") or isinstance(parent, (ast.Compare, ast.BinOp)),
+                        (path, node.lineno),
+                    )
+
+    def test_is_and_powers_and_texts(self):
+        for path, _, tree in each_file():
+            for node in ast.walk(tree):
+                where = (path, getattr(node, "lineno", 0))
+                if isinstance(node, ast.Compare) and isinstance(node.ops[0], (ast.Is, ast.IsNot)):
+                    self.assertIn(getattr(node.comparators[0], "value", ""), (None, True, False), where)
+                if isinstance(node, ast.BinOp) and isinstance(node.op, ast.Pow):
+                    self.assertIn(getattr(node.right, "value", None), range(65), where)
+                if isinstance(node, ast.Constant) and isinstance(node.value, str):
+                    self.assertNotIn("%", node.value, where)
+
+    def test_each_name_once_at_the_top_and_not_called_like_an_import_or_a_class(self):
+        for path, _, tree in each_file():
+            top = names_of_top(tree)
+            self.assertEqual(len(top), len(set(top)), path)
+            classes = {node.name for node in tree.body if isinstance(node, ast.ClassDef)}
+            self.assertEqual(names_within_functions(tree) & (imported_names(tree) | classes), set(), path)
+
+    def test_imports_are_from_the_defining_file_and_not_in_a_circle(self):
+        trees = {path.stem: tree for path, _, tree in each_file()}
+        drawn = {}
+        for name, tree in trees.items():
+            rows = [node for node in tree.body if isinstance(node, ast.ImportFrom)]
+            drawn[name] = {node.module.partition(".")[2] for node in rows} | {"__init__"} - {name}
+            for node in rows:
+                source = trees[node.module.partition(".")[2]]
+                for alias in node.names:
+                    self.assertIn(alias.name, set(names_of_top(source)) - imported_names(source), name)
+        while drawn:
+            free = [name for name, sources in drawn.items() if not sources & set(drawn)]
+            self.assertTrue(free, f"these draw from one another: {sorted(drawn)}")
+            for name in free:
+                drawn.pop(name)
+
+    def test_no_name_is_a_method_and_a_value(self):
+        methods, fields = set(), set()
+        for _, _, tree in each_file():
+            for node in ast.walk(tree):
+                if isinstance(node, ast.ClassDef):
+                    methods |= {part.name for part in node.body if isinstance(part, ast.FunctionDef)}
+                if isinstance(node, ast.Attribute) and isinstance(node.ctx, ast.Store):
+                    fields.add(node.attr)
+        self.assertEqual(methods & fields, set())
 
 
 if __name__ == "__main__":

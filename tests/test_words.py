@@ -3,32 +3,11 @@ import unittest
 
 from firstword.errors import BadThrows, BadWord
 from firstword.words import ends, overlaps, stands
+from helper import LONG_WORDS, NO_TEXTS, all_texts, texts_with_other_signs
 
 
 class OwnText(str):
     pass
-
-
-# Of any kind: what is no text, and texts with a sign that is no letter from a to z.
-NO_TEXTS = (
-    None, True, False, 0, 1, -3, 97, 1.5, 2j, b"", b"ab", bytearray(b"ab"),
-    [], ["a"], ["a", "b"], (), ("a",), ("a", "b"), {}, {"a": 1}, set(), {"a"}, frozenset("ab"),
-    range(3), iter("ab"), object(), str, len, lambda: "ab", ValueError("ab"),
-)
-OTHER_SIGNS = [chr(code) for code in range(32, 127) if not "a" <= chr(code) <= "z"] + ["\t", "\n", "\r"]
-
-
-def texts_with_other_signs():
-    texts = ["A", "ABC", "aBc", "Ab", "aB", "ab\n", "\nab", " ab", "ab ", "a b", "a1", "1a", "12", "a,b"]
-    for sign in OTHER_SIGNS:
-        texts.extend([sign, sign + "ab", "a" + sign + "b", "ab" + sign])
-    return texts
-
-
-def all_texts(letters, most):
-    for length in range(most + 1):
-        for signs in itertools.product(letters, repeat=length):
-            yield "".join(signs)
 
 
 def overlaps_as_told(word):
@@ -41,28 +20,6 @@ def stands_as_told(word, throws):
 
 def ends_as_told(word, throws):
     return [count for count in range(len(throws) + 1) if throws[:count].endswith(word)]
-
-
-def fibonacci_word(least):
-    shorter, word = "a", "ab"
-    while len(word) < least:
-        shorter, word = word, word + shorter
-    return word
-
-
-LONG_WORDS = (
-    "a" * 700,
-    "ab" * 300,
-    "ab" * 300 + "a",
-    "abc" * 200 + "ab",
-    "a" * 400 + "b",
-    "b" + "a" * 400,
-    "a" * 250 + "b" + "a" * 250,
-    ("a" * 20 + "b") * 25 + "a" * 20,
-    fibonacci_word(600),
-    "abcdefghijklmnopqrstuvwxyz" * 20,
-    "abcdefghijklmnopqrstuvwxyz" * 20 + "abc",
-)
 
 
 class TestOverlaps(unittest.TestCase):
